@@ -122,6 +122,39 @@ func TestP5_2Full(t *testing.T) {
 	}
 }
 
+func TestP5_2WhoMakesRoom(t *testing.T) {
+	for range 40 {
+		var c Cache
+		for a := range api.Addr(16) {
+			c.Learn(a, m1, 20, true)
+		}
+		c.Learn(12, m1, 10, true)
+		c.Learn(7, m1, 10, true)
+		c.Learn(9, m1, 10, true)
+		if got := c.Send(99, nil, 30); !got.Ask || c.Len() != 16 {
+			t.Fatal(got, c.Len())
+		}
+		for a := range api.Addr(16) {
+			if a != 7 && !c.Send(a, nil, 30).Known {
+				t.Fatal("removed:", a)
+			}
+		}
+		if got := c.Send(7, nil, 30); !got.Ask {
+			t.Fatal(got)
+		}
+	}
+	var c Cache
+	for a := range api.Addr(16) {
+		c.Learn(a, m1, int(a), true)
+	}
+	if got := c.Send(3, nil, 603); !got.Ask || c.Len() != 16 {
+		t.Error(got, c.Len())
+	}
+	if got := c.Learn(0, m2, 603, false); len(got) != 0 || !c.Send(0, nil, 604).Known {
+		t.Error("an expired one that is asked for makes no room by itself")
+	}
+}
+
 func TestP5_3Learn(t *testing.T) {
 	var c Cache
 	if c.Learn(1, m1, 0, false); c.Len() != 0 {

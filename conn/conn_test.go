@@ -164,8 +164,8 @@ func TestP17_1New(t *testing.T) {
 	if len(a.Arrive(seg(api.Syn, 500, 0, 10, ""), 0)) != 0 || len(a.Tick(99)) != 0 {
 		t.Error("a new connection does something")
 	}
-	if _, _, err := a.Send(nil, 0); err != api.ErrNotConn {
-		t.Error(err)
+	if n, l, err := a.Send(nil, 0); n != 0 || len(l) != 0 || err != api.ErrNotConn {
+		t.Error(n, err)
 	}
 	if _, _, err := a.Recv(0, 0); err != api.ErrNotConn {
 		t.Error(err)
@@ -374,6 +374,133 @@ func TestP17_5Window(t *testing.T) {
 	is(t, "closed", a.Arrive(seg(api.Ack, 501, 101, 10, "x"), 1), "")
 }
 
+// TestP17_5NothingElse: behind the step that ends the processing, no later step is taken.
+func TestP17_5NothingElse(t *testing.T) {
+	a, _ := joined(t, configA(), configB())
+	is(t, "a reset with all else", a.Arrive(seg(api.Rst|api.Ack|api.Fin, 501, 999, 9, "xy"), 1), "")
+	state(t, a, api.Closed, api.ErrReset)
+	due(t, a, -1)
+	a, _ = joined(t, configA(), configB())
+	is(t, "a reset elsewhere with all else", a.Arrive(seg(api.Rst|api.Ack|api.Fin, 503, 999, 9, "xy"), 1), "A 101/501")
+	if a.ahead.Held() != 0 || a.known {
+		t.Error("its data are taken")
+	}
+	c := configA()
+	c.Keep = 50
+	a, _ = joined(t, c, configB())
+	a.Arrive(seg(api.Rst|api.Ack, 501, 101, 9, ""), 1)
+	due(t, a, -1)
+}
+
+func TestP17_5ResetInTimeWait(t *testing.T) {
+	a, _ := joined(t, configA(), configB())
+	shut(a, 1)
+	a.Arrive(seg(api.Fin|api.Ack, 501, 102, 9, ""), 5)
+	state(t, a, api.TimeWait, api.OK)
+	is(t, "in TimeWait", a.Arrive(seg(api.Rst, 502, 0, 0, ""), 6), "")
+	state(t, a, api.Closed, api.OK)
+	a, _ = joined(t, configA(), configB())
+	shut(a, 1)
+	a.Arrive(seg(api.Ack, 501, 102, 9, ""), 5)
+	is(t, "in FinWait2", a.Arrive(seg(api.Rst, 501, 0, 0, ""), 6), "")
+	state(t, a, api.Closed, api.ErrReset)
+}
+
+func TestP17_5KeepIsStopped(t *testing.T) {
+	ca, cb := configA(), configB()
+	ca.Keep, cb.Keep = 50, 70
+	a, b := joined(t, ca, cb)
+	due(t, a, 50)
+	due(t, b, 70)
+	shut(a, 1)
+	a.Arrive(seg(api.Ack, 501, 102, 9, ""), 5)
+	state(t, a, api.FinWait2, api.OK)
+	due(t, a, -1)
+	b.Arrive(api.Segment{Flags: api.Fin | api.Ack, Seq: 101, Ack: 501, Scale: -1}, 6)
+	due(t, b, 76)
+	b.Arrive(api.Segment{Flags: api.Ack, Seq: 102, Ack: 501, Scale: -1}, 9)
+	due(t, b, 79)
+	b.Shut(10)
+	b.Arrive(api.Segment{Flags: api.Ack, Seq: 102, Ack: 501, Scale: -1}, 11)
+	due(t, b, 20)
+}
+
+func TestP17_5Tries(t *testing.T) {
+	a := made(t, configA())
+	connect(a, 0)
+	a.Tick(30)
+	a.Arrive(seg(api.Syn|api.Ack, 500, 101, 10, ""), 31)
+	if a.tries != 0 {
+		t.Error(a.tries)
+	}
+	a, _ = joined(t, configA(), configB())
+	send(t, a, "abc", 0)
+	a.Tick(10)
+	a.Tick(30)
+	a.Arrive(seg(api.Ack, 501, 101, 9, ""), 31)
+	if a.tries != 2 {
+		t.Error("an acknowledgement of nothing new:", a.tries)
+	}
+	a.Arrive(seg(api.Ack, 501, 102, 9, ""), 32)
+	if a.tries != 0 {
+		t.Error(a.tries)
+	}
+}
+
+func TestP17_5BackAndAllTaken(t *testing.T) {
+	c := configA()
+	c.MSS = 100
+	a, _ := joined(t, c, configB())
+	is(t, "Send", send(t, a, strings.Repeat("z", 300), 5), "A 101/501+100, A 201/501+100")
+	is(t, "the time is over", a.Tick(15), "A 101/501+100")
+	is(t, "all was taken", a.Arrive(seg(api.Ack, 501, 301, 8192, ""), 16), "PA 301/501+100")
+	if a.una != 301 || a.nxt != 401 || a.top != 401 {
+		t.Error(a.una, a.nxt, a.top)
+	}
+}
+
+func TestP17_5OneByteAhead(t *testing.T) {
+	a, _ := joined(t, configA(), configB())
+	is(t, "ahead", a.Arrive(seg(api.Ack, 505, 101, 9, "e"), 1), "A 101/501")
+	is(t, "it waits yet", a.Arrive(seg(api.Ack, 501, 101, 9, "a"), 2), "A 101/502")
+	is(t, "the gap", a.Arrive(seg(api.Ack, 502, 101, 9, "bcd"), 3), "A 101/506")
+	if a.ahead.Held() != 0 {
+		t.Error(a.ahead.Held())
+	}
+}
+
+func TestP17_5OneSegmentIsEnough(t *testing.T) {
+	a, _ := joined(t, configA(), configB())
+	a.Arrive(seg(api.Ack, 501, 101, 0, ""), 1)
+	is(t, "a shut window", send(t, a, "abc", 1), "")
+	is(t, "data ahead, and a window", a.Arrive(seg(api.Ack, 505, 101, 9, "e"), 2), "PA 101/501+3")
+}
+
+func TestP17_5FirstAgain(t *testing.T) {
+	c := configA()
+	a, _ := joined(t, c, configB())
+	a.Arrive(seg(api.Ack, 501, 101, 1, ""), 1)
+	is(t, "a part", send(t, a, "abcdefgh", 1), "A 101/501+4")
+	is(t, "the FIN does not fit", shut(a, 1), "")
+	for i, want := range []string{"", "", "PA 101/501+4"} {
+		is(t, "the same, "+strconv.Itoa(i), a.Arrive(seg(api.Ack, 501, 101, 1, ""), 6), want)
+	}
+	a, _ = joined(t, c, configB())
+	a.Arrive(seg(api.Ack, 501, 101, 16000, ""), 0)
+	is(t, "Shut", shut(a, 1), "FA 101/501")
+	for i, want := range []string{"", "", "FA 101/501"} {
+		is(t, "the same, "+strconv.Itoa(i), a.Arrive(seg(api.Ack, 501, 101, 16000, ""), 6), want)
+	}
+	c.MSS = 100
+	a, _ = joined(t, c, configB())
+	a.Arrive(seg(api.Ack, 501, 101, 16000, ""), 0)
+	is(t, "Send", send(t, a, strings.Repeat("z", 150), 1), "A 101/501+100")
+	is(t, "Shut", shut(a, 1), "FPA 201/501+50")
+	for i, want := range []string{"", "", "PA 101/501+100"} {
+		is(t, "the same, "+strconv.Itoa(i), a.Arrive(seg(api.Ack, 501, 101, 16000, ""), 6), want)
+	}
+}
+
 func TestP17_5Resets(t *testing.T) {
 	b := made(t, configB())
 	b.Accept(seg(api.Syn, 9, 0, 700, ""), 0)
@@ -414,8 +541,8 @@ func TestP17_5SynReceived(t *testing.T) {
 	is(t, "a wrong Ack", b.Arrive(seg(api.Ack, 10, 502, 5, ""), 1), "R 502")
 	is(t, "the SYN again", b.Arrive(seg(api.Syn, 9, 0, 5, ""), 1), "A 501/10")
 	state(t, b, api.SynReceived, api.OK)
-	if _, _, err := b.Send([]byte("x"), 1); err != api.ErrAgain {
-		t.Error(err)
+	if n, l, err := b.Send([]byte("x"), 1); n != 0 || len(l) != 0 || err != api.ErrAgain {
+		t.Error(n, err)
 	}
 	is(t, "Shut", shut(b, 1), "")
 	state(t, b, api.SynReceived, api.OK)
@@ -686,6 +813,9 @@ func TestP17_6Keep(t *testing.T) {
 	is(t, "answered", a.Arrive(seg(api.Ack, 501, 101, 100, ""), 60), "")
 	due(t, a, 110)
 	now := 110
+	b := *a
+	b.Tick(110)
+	due(t, &b, 160)
 	for range 8 {
 		is(t, "asked", a.Tick(now), "A 100/501")
 		now += 50
@@ -718,12 +848,12 @@ func TestP17_7Send(t *testing.T) {
 		t.Error(n, err)
 	}
 	shut(a, 1)
-	if _, _, err := a.Send(nil, 1); err != api.ErrPipe {
-		t.Error(err)
+	if n, l, err := a.Send(nil, 1); n != 0 || len(l) != 0 || err != api.ErrPipe {
+		t.Error(n, err)
 	}
 	a.Arrive(seg(api.Rst, 501, 0, 0, ""), 2)
-	if _, _, err := a.Send(nil, 3); err != api.ErrReset {
-		t.Error(err)
+	if n, l, err := a.Send(nil, 3); n != 0 || len(l) != 0 || err != api.ErrReset {
+		t.Error(n, err)
 	}
 	if _, _, err := a.Send(nil, 3); err != api.ErrPipe {
 		t.Error(err)
@@ -733,6 +863,18 @@ func TestP17_7Send(t *testing.T) {
 func TestP17_7WhatItCan(t *testing.T) {
 	c := configA()
 	a, _ := joined(t, c, configB())
+	a.mss = 10
+	is(t, "one byte", send(t, a, "a", 1), "PA 101/501+1")
+	is(t, "another one waits", send(t, a, "b", 1), "")
+	a, _ = joined(t, c, configB())
+	a.Arrive(seg(api.Ack, 501, 101, 1, ""), 1)
+	is(t, "one byte", send(t, a, "a", 1), "PA 101/501+1")
+	is(t, "three of seven wait", send(t, a, "bcdefgh", 1), "")
+	a, _ = joined(t, c, configB())
+	a.Arrive(seg(api.Ack, 501, 101, 0, ""), 1)
+	is(t, "a shut window", send(t, a, "a", 1), "")
+	due(t, a, 11)
+	a, _ = joined(t, c, configB())
 	a.mss = 10
 	is(t, "the first", send(t, a, "abc", 1), "PA 101/501+3")
 	is(t, "a small one waits", send(t, a, "def", 1), "")
@@ -790,6 +932,48 @@ func TestP17_8Recv(t *testing.T) {
 	if _, _, err := a.Recv(1, 6); err != api.ErrNotConn {
 		t.Error(err)
 	}
+}
+
+func TestP17_8Grown(t *testing.T) {
+	for _, want := range []int{api.Established, api.FinWait1, api.FinWait2, api.CloseWait, api.LastAck} {
+		a, _ := joined(t, configA(), configB())
+		a.mss = 100
+		a.Arrive(seg(api.Ack, 501, 101, 9, strings.Repeat("x", 300)), 0)
+		a.Tick(4)
+		switch want {
+		case api.FinWait1:
+			shut(a, 5)
+		case api.FinWait2:
+			shut(a, 5)
+			a.Arrive(seg(api.Ack, 801, 102, 9, ""), 5)
+		case api.CloseWait:
+			a.Arrive(seg(api.Fin|api.Ack, 801, 101, 9, ""), 5)
+		case api.LastAck:
+			a.Arrive(seg(api.Fin|api.Ack, 801, 101, 9, ""), 5)
+			shut(a, 5)
+		}
+		state(t, a, want, api.OK)
+		_, l, _ := a.Recv(300, 6)
+		if tells := want == api.Established || want == api.FinWait1 || want == api.FinWait2; (len(l) == 1) != tells {
+			t.Error(want, show(l))
+		}
+	}
+}
+
+func TestP17_10Due(t *testing.T) {
+	c := configA()
+	c.NoDelay = true
+	a, _ := joined(t, c, configB())
+	send(t, a, "x", 1)
+	due(t, a, 11)
+	send(t, a, "y", 5)
+	due(t, a, 11)
+	a.Arrive(seg(api.Ack, 501, 101, 9, "y"), 6)
+	due(t, a, 10)
+	a.Tick(10)
+	due(t, a, 11)
+	a.Arrive(seg(api.Ack, 502, 101, 9, "y"), 10)
+	due(t, a, 11)
 }
 
 func TestP17_8AtLeastOne(t *testing.T) {

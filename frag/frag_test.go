@@ -84,6 +84,23 @@ func TestP7_1Options(t *testing.T) {
 	}
 }
 
+func TestP7_1HeaderLengths(t *testing.T) {
+	for n, length := range []int{20, 24, 24, 24, 24, 28, 28, 28, 28, 32} {
+		p := api.Packet{Options: bytes.Repeat([]byte{1}, n), Data: some(100 - length)}
+		if pieces, err := Split(p, 100); err != api.OK || len(pieces) != 1 {
+			t.Error(n, len(pieces), err)
+		}
+		p.Data = some(101 - length)
+		if pieces, err := Split(p, 100); err != api.OK || len(pieces) != 2 {
+			t.Error(n, len(pieces), err)
+		}
+	}
+	pieces, _ := Split(api.Packet{Options: []byte{127, 2, 128, 2}, Data: some(100)}, 68)
+	if !bytes.Equal(pieces[1].Options, []byte{128, 2}) {
+		t.Error(pieces[1].Options)
+	}
+}
+
 func TestP7_1Errors(t *testing.T) {
 	big := api.Packet{Whole: true, Data: some(100)}
 	for i, c := range []struct {
@@ -128,6 +145,14 @@ func TestP7_2Whole(t *testing.T) {
 			t.Error(q, ok, err)
 		}
 	}
+}
+
+func TestP7_2WholeWithoutData(t *testing.T) {
+	var s Store
+	if q, ok, err := s.Add(api.Packet{ID: 5}, 0); !ok || err != api.OK || q.ID != 5 {
+		t.Error(q, ok, err)
+	}
+	add(t, &s, api.Packet{Offset: 1, Data: some(1)}, 0, api.ErrForm)
 }
 
 func TestP7_2Assembly(t *testing.T) {
@@ -236,6 +261,23 @@ func TestP7_2TheOldestMakesRoom(t *testing.T) {
 	}
 	if s.Len() != 0 || last(1) || last(99) {
 		t.Error("the oldest ones are there yet")
+	}
+}
+
+func TestP7_2OfOneAge(t *testing.T) {
+	var s Store
+	for i := range 10 {
+		add(t, &s, api.Packet{ID: i, More: true, Data: some(8)}, 5, api.OK)
+	}
+	for i := range 10 {
+		if _, ok, _ := s.Add(api.Packet{ID: i, Offset: 8, Data: some(1)}, 5); ok != (i > 1 && i < 10) {
+			t.Error(i, ok)
+		}
+		s.Tick(305)
+		s = Store{}
+		for k := range 10 {
+			s.Add(api.Packet{ID: k, More: true, Data: some(8)}, 5)
+		}
 	}
 }
 

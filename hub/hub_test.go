@@ -87,6 +87,12 @@ func TestP18_1Listen(t *testing.T) {
 			t.Error(c, id, err)
 		}
 	}
+	for i, port := range []int{1, 65535} {
+		var h Hub
+		if id, err := h.Listen(me, port, 1); id != 1 || err != api.OK {
+			t.Error(i, id, err)
+		}
+	}
 	if id := listen(t, &h, me, 80, 32); id != 1 {
 		t.Error(id)
 	}
@@ -384,6 +390,11 @@ func TestP18_5Drop(t *testing.T) {
 		t.Error(err)
 	}
 	count(t, h, 0, 1)
+
+	h = established(t)
+	h.Arrive(seg(api.Ack, 1001, 80, 10, 501, "h"), base(), 0)
+	l, _ = h.Drop(2, 0)
+	is(t, "with one byte", l, "RA 501/11")
 
 	h = established(t)
 	l, _ = h.Drop(2, 0)

@@ -78,6 +78,7 @@ func TestP9_2May(t *testing.T) {
 	for i, p := range []api.Packet{
 		with(func(p *api.Packet) { p.Proto = api.ProtoICMP }),
 		with(func(p *api.Packet) { p.Offset = 8 }),
+		with(func(p *api.Packet) { p.Offset = 1 }),
 		with(func(p *api.Packet) { p.To = api.Group }),
 		with(func(p *api.Packet) { p.To = api.Broadcast }),
 		with(func(p *api.Packet) { p.From = 0 }),
@@ -178,6 +179,9 @@ func TestP9_5Bucket(t *testing.T) {
 		}
 	}
 	if _, err := NewBucket(1<<20, 1<<20); err != api.OK {
+		t.Error(err)
+	}
+	if _, err := NewBucket(1, 1); err != api.OK {
 		t.Error(err)
 	}
 	b, _ := NewBucket(2, 10)

@@ -155,6 +155,16 @@ func TestP10_4Queries(t *testing.T) {
 	}
 }
 
+func TestP10_4NoMax(t *testing.T) {
+	var h Host
+	h.Join(g1, 0, 0)
+	h.Tick(50)
+	h.Hear(api.IGMP{Type: api.Query}, 100, 100)
+	if len(h.Tick(100)) != 0 || len(h.Tick(101)) != 1 {
+		t.Error("a delay of a hundred and none more")
+	}
+}
+
 func TestP10_4TimersThatRemain(t *testing.T) {
 	var h Host
 	h.Join(g1, 0, 4)

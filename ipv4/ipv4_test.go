@@ -118,6 +118,12 @@ func TestP6_2Decode(t *testing.T) {
 			t.Errorf("%d: %v, want %v", i, err, c.want)
 		}
 	}
+	for _, options := range [][]byte{nil, {1, 1, 1, 1}} {
+		bare, _ := Encode(api.Packet{Proto: 3, Options: options})
+		if q, err := Decode(bare); err != api.OK || q.Proto != 3 || len(q.Data) != 0 {
+			t.Error(q, err)
+		}
+	}
 	far, _ := Encode(api.Packet{Offset: 65504, Data: make([]byte, 11)})
 	if _, err := Decode(far); err != api.OK {
 		t.Error(err)
@@ -130,7 +136,7 @@ func TestP6_2Decode(t *testing.T) {
 }
 
 func TestP6_3Text(t *testing.T) {
-	for a, s := range map[api.Addr]string{0x0a000001: "10.0.0.1", 0: "0.0.0.0", 0xffffffff: "255.255.255.255", 0x01020a64: "1.2.10.100"} {
+	for a, s := range map[api.Addr]string{0x0a000001: "10.0.0.1", 0: "0.0.0.0", 0xffffffff: "255.255.255.255", 0x01020a64: "1.2.10.100", 0x0963c7f9: "9.99.199.249"} {
 		if Text(a) != s {
 			t.Error(Text(a), s)
 		}

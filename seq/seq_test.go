@@ -80,7 +80,7 @@ func TestP12_4Trim(t *testing.T) {
 		{5, 0, 5, 4, 0, 0}, {5, -1, 5, 4, 0, 0}, {5, 4, 5, 0, 0, 0}, {5, 4, 5, -1, 0, 0}, {3, 0, 5, 0, 0, 0},
 		{5, math.MaxInt, 5, math.MaxInt, 0, 1<<31 - 1}, {5, math.MaxInt, 5, 7, 0, 7}, {5, 7, 5, math.MaxInt, 0, 7},
 		{0, math.MaxInt, 1 << 30, math.MaxInt, 1 << 30, 1<<30 - 1}, {1 << 31, math.MaxInt, 0, math.MaxInt, 0, 0},
-		{5, math.MinInt, 5, math.MinInt, 0, 0}, {1<<31 - 1, 5, 0, math.MaxInt, 0, 0}, {1<<31 - 2, 5, 0, math.MaxInt, 0, 1},
+		{5, math.MinInt, 5, math.MinInt, 0, 0}, {3, math.MinInt, 5, 5, 0, 0}, {9, 5, 5, math.MinInt, 0, 0}, {1<<31 - 1, 5, 0, math.MaxInt, 0, 0}, {1<<31 - 2, 5, 0, math.MaxInt, 0, 1},
 	} {
 		first, many := Trim(c.at, c.n, c.next, c.window)
 		if first != c.first || many != c.many {

@@ -64,6 +64,9 @@ func TestP2_2Most(t *testing.T) {
 	for range 5 {
 		b.Add(4, 1<<31-1)
 	}
+	if v := b.counts[4].Load(); v != 1<<62 {
+		t.Error("the counter goes on:", v)
+	}
 	if b.Get(4) != 1<<62 || b.Take()[4] != 1<<62 || b.Get(4) != 0 {
 		t.Error("above the limit")
 	}

@@ -158,6 +158,7 @@ func TestP11_3Pick(t *testing.T) {
 		{9, api.Any, -5, 49156, api.OK},
 		{10, api.Any, math.MaxInt, 49157, api.OK},
 		{11, api.Any, 9000, 58152, api.OK},
+		{0, api.Any, 9001, 58153, api.OK},
 	} {
 		port, err := p.Pick(c.id, c.a, c.draw)
 		if port != c.port || err != c.want {
