@@ -15,6 +15,7 @@ import (
 	"wharf/igmp"
 	"wharf/ipv4"
 	"wharf/segment"
+	"wharf/tally"
 	"wharf/udp"
 )
 
@@ -172,6 +173,15 @@ func packetOf(t *testing.T, b []byte) api.Packet {
 	return p
 }
 
+func TestCounters(t *testing.T) {
+	var b tally.Board
+	for n, name := range map[int]string{framesIn: "frames in", framesOut: "frames out", notOurs: "not ours", malformed: "malformed", arpAsked: "arp asked", arpLost: "arp lost", fragments: "fragments", putTogether: "put together", notRouted: "not routed", icmpTold: "icmp told", icmpHeld: "icmp held", udpIn: "udp in", udpNoPort: "udp no port", tcpIn: "tcp in", tcpReset: "tcp reset", droppedFull: "dropped full"} {
+		if b.Name(n) != name {
+			t.Error(n, name)
+		}
+	}
+}
+
 func TestP19_1New(t *testing.T) {
 	for i, c := range []api.HostConfig{
 		{MAC: api.MAC{1}}, {MAC: all},
@@ -311,17 +321,18 @@ func TestP19_4WhatIsTaken(t *testing.T) {
 	counted(t, h, malformed, 1)
 
 	none, _ := New(api.HostConfig{MAC: mac1})
-	for to, n := range map[api.Addr]int{addr1: 1, 0xdfffffff: 1, api.Broadcast: 1, allHosts: 1, group1: 0} {
+	for to, n := range map[api.Addr]int{addr1: 1, 0xdfffffff: 1, api.Broadcast: 1, allHosts: 1, group1: 0, api.Group: 0} {
 		before := none.Count(udpIn)
 		none.Frame(ipFrame(udpPacket(addr2, 1, to, 9, "x")), 0, 0)
 		if none.Count(udpIn) != before+n {
 			t.Error(to)
 		}
 	}
-	small, _ := New(api.HostConfig{MAC: mac1, Addr: addr1, Bits: 31})
-	small.Frame(ipFrame(udpPacket(addr2, 1, addr1|1, 9, "x")), 0, 0)
-	small.Frame(ipFrame(udpPacket(addr2, 1, addr1&^1, 9, "x")), 0, 0)
-	counted(t, small, udpIn, 1, notOurs, 1)
+	for bits, n := range map[int]int{29: 0, 30: 1, 31: 0, 32: 0} {
+		small, _ := New(api.HostConfig{MAC: mac1, Addr: 0x0a000012, Bits: bits})
+		small.Frame(ipFrame(udpPacket(addr2, 1, 0x0a000013, 9, "x")), 0, 0)
+		counted(t, small, udpIn, n, notOurs, 1-n)
+	}
 }
 
 func TestP19_4Echo(t *testing.T) {
@@ -398,7 +409,7 @@ func TestP19_4Datagrams(t *testing.T) {
 	for i := range api.MaxQueue + 2 {
 		is(t, "a datagram", h.Frame(ipFrame(udpPacket(addr2, 5, addr1, 9, strconv.Itoa(i))), 1, 0))
 	}
-	counted(t, h, udpIn, api.MaxQueue+2, droppedFull, 2, udpNoPort, 0)
+	counted(t, h, udpIn, api.MaxQueue+2, droppedFull, 2, udpNoPort, 0, fragments, 0, putTogether, 0)
 	if n, wrong := h.Waits(1); n != api.MaxQueue || wrong {
 		t.Error(n, wrong)
 	}
@@ -563,9 +574,19 @@ func TestP19_6Packet(t *testing.T) {
 	p.To = 0x08080808
 	l, _ = h.Packet(p, 1)
 	is(t, "by the gateway", l, "arp 1 10.0.0.1 10.0.0.254 > ff")
-	p.To = 0xf0000001
-	l, _ = h.Packet(p, 1)
-	is(t, "no group", l)
+	for _, to := range []api.Addr{0xf0000000, 0xf0000001, 0xfffffffe} {
+		p.To = to
+		l, err = h.Packet(p, 1)
+		is(t, "no group: it waits for the gateway", l)
+		if err != api.OK {
+			t.Error(err)
+		}
+	}
+	for to, want := range map[api.Addr]string{api.Group: "224.0.0.0 > 00", 0xefffffff: "239.255.255.255 > ff"} {
+		p.To = to
+		l, _ = h.Packet(p, 1)
+		is(t, "a group", l, "proto 200 10.0.0.1 "+want)
+	}
 }
 
 func TestP19_6NoRoute(t *testing.T) {

@@ -17,7 +17,7 @@ const (
 )
 
 func full() api.Lease {
-	return api.Lease{Op: 2, ID: 0x01020304, Yours: mine, Client: mac, Type: api.Acked, Server: server, Asked: 7, Time: 60, Mask: 0xffffff00, Router: 0x0a0000fe, Resolver: 0x0a000035}
+	return api.Lease{Op: 2, ID: 0x01020304, Yours: mine, Client: mac, Type: api.Acked, Server: server, Asked: 7, Time: 60, Mask: 0xffffff00, Router: 0x0a0000fe, Resolver: 0x0a5b6c35}
 }
 
 // head is what stands before the options.
@@ -32,7 +32,7 @@ func head() []byte {
 
 func TestP23_1Encode(t *testing.T) {
 	b, err := Encode(full())
-	want := append(head(), 53, 1, 5, 54, 4, 10, 0, 0, 1, 50, 4, 0, 0, 0, 7, 51, 4, 0, 0, 0, 60, 1, 4, 255, 255, 255, 0, 3, 4, 10, 0, 0, 254, 6, 4, 10, 0, 0, 53, 255)
+	want := append(head(), 53, 1, 5, 54, 4, 10, 0, 0, 1, 50, 4, 0, 0, 0, 7, 51, 4, 0, 0, 0, 60, 1, 4, 255, 255, 255, 0, 3, 4, 10, 0, 0, 254, 6, 4, 10, 0x5b, 0x6c, 53, 255)
 	if err != api.OK || !bytes.Equal(b, want) {
 		t.Errorf("% x, %v", b, err)
 	}
@@ -279,6 +279,13 @@ func TestP23_4Tries(t *testing.T) {
 		is(t, "early", c.Tick(at-1, 0))
 		is(t, "Request", c.Tick(at, 0), api.Request)
 	}
+	d := New(mac)
+	d.Start(0, 9)
+	d.Tick(40, 0)
+	d.Hear(from(9, api.Offer, mine, server, 5), 50, 0)
+	is(t, "Request", d.Tick(90, 0), api.Request)
+	is(t, "early", d.Tick(169, 0))
+	is(t, "Request", d.Tick(170, 0), api.Request)
 	if m := is(t, "given up", c.Tick(810, 6), api.Discover); m.ID != 6 {
 		t.Error(m)
 	}

@@ -112,6 +112,9 @@ func TestP22_1New(t *testing.T) {
 			t.Error(c, err)
 		}
 	}
+	if _, err := New([]api.Addr{server0}, 1); err != api.OK {
+		t.Error(err)
+	}
 	for n := 1; n <= 3; n++ {
 		if _, err := New(make([]api.Addr, n), 65535); err != api.OK {
 			t.Error(n, err)
@@ -253,6 +256,15 @@ func TestP22_3Cached(t *testing.T) {
 	if expiry(math.MaxInt-5, 1) != math.MaxInt {
 		t.Error("the sum wraps")
 	}
+}
+
+func TestP22_3OtherClasses(t *testing.T) {
+	r := fresh(t, server0)
+	r.Ask("q", 0, 0)
+	other, alias := a("q", 9, 9), cname("q", 9, "s")
+	other.Class, alias.Class = 3, 3
+	hear(t, r, answer(0, "q", 0, other, alias), 0, 0, "q 7", "")
+	counted(t, r, 0, 0)
 }
 
 func TestP22_3Full(t *testing.T) {

@@ -66,6 +66,13 @@ func TestP25_1Steps(t *testing.T) {
 	run(t, sent+"0 1 recv 0 5\ngive 0\ngive 0\ngive 0\ngive 0\ngive 0\n", done+"error 7\n")
 }
 
+// TestP25_1Hosts: the addresses of the hosts, and that they have no gateways.
+func TestP25_1Hosts(t *testing.T) {
+	run(t, "0 0 udp\n0 0 sendto 0 10.0.0.255 9 x\nflight\n0 0 sendto 0 10.0.1.0 9 x\n1 0 udp\n1 0 bind 0 10.0.0.1 5\n1 0 bind 0 10.0.0.2 5\n0 0 bind 0 10.0.0.1 5\n", "0 0 0\n0 0 0 n=1\n1\n0 0 24\n1 0 0\n1 0 23\n1 0 0\n0 0 21\n")
+	// The answer to host 0 becomes one to everybody, only if it went to the address that host 0 has; and so with host 1.
+	run(t, "0 0 udp\n0 0 sendto 0 10.0.0.2 9 x\ngive 0\nalter 0 0 253\nalter 0 1 255\nalter 0 2 255\nalter 0 3 255\nalter 0 4 255\nalter 0 5 254\ngive 0\nflight\nalter 0 0 253\nalter 0 1 255\nalter 0 2 255\nalter 0 3 255\nalter 0 4 255\nalter 0 5 253\ngive 0\nflight\n", "0 0 0\n0 0 0 n=1\n1\n1\n")
+}
+
 func TestP25_1NoForm(t *testing.T) {
 	for _, line := range []string{
 		"x", " ", "0", "0 0", "0 0 xyz", "2 0 tcp", "00 0 tcp", "0 0 tcp ", " 0 0 tcp", "0  0 tcp", "0 0  tcp", "0 0 tcp 1", "0 0 TCP", "0 0 tcp\r", "0 x tcp", "0 -1 tcp", "0 01 tcp", "0 1234567890 tcp",

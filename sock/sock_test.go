@@ -8,6 +8,9 @@ import (
 	"testing"
 
 	"wharf/api"
+	"wharf/ether"
+	"wharf/ipv4"
+	"wharf/segment"
 )
 
 const (
@@ -436,6 +439,149 @@ func TestP20_2ConnectFull(t *testing.T) {
 	n.do(0, name(0, 1), "0: @0:49152")
 }
 
+func TestP20_2ConnectBothWays(t *testing.T) {
+	n := fresh(t)
+	for i := range 2 {
+		n.do(i, newSocket(0, tcp), "0:")
+		n.do(i, bind(0, 0, api.Any, 5000), "0:")
+	}
+	n.do(0, connect(0, 0, addr1, 5000))
+	n.do(1, connect(0, 0, addr0, 5000))
+	give := func(i int) {
+		f := n.way[i][0]
+		n.way[i] = n.way[i][1:]
+		returns, frames := n.stacks[i].Frame(f, n.now, 0)
+		if got := n.take(i, returns, frames); len(got) != 0 {
+			t.Error(got)
+		}
+	}
+	give(0)
+	give(1)
+	give(0)
+	if s, _ := n.stacks[0].Host().Hub().State(1); s != api.SynReceived {
+		t.Fatal(s)
+	}
+	n.do(0, connect(1, 0, addr1, 5000), fails(1, api.ErrAlready))
+	n.do(0, poll(1, 0, 7), "1:")
+	n.run(3, 1, "0:")
+	if len(n.stacks[0].Waiting()) != 0 {
+		t.Error("it waits yet")
+	}
+	n.do(0, send(0, 0, "x"), "0: n1")
+	n.run(0, 1)
+	n.do(1, recv(0, 0, 9), "0: n1 x")
+}
+
+func TestP20_2ShutBeforeEstablished(t *testing.T) {
+	n := fresh(t)
+	n.do(0, newSocket(0, tcp), "0:")
+	n.do(0, bind(0, 0, api.Any, 5000), "0:")
+	n.do(0, option(0, 0, api.OptNoBlock, 1), "0:")
+	n.do(1, newSocket(0, tcp), "0:")
+	n.do(1, bind(0, 0, api.Any, 5000), "0:")
+	n.do(0, connect(0, 0, addr1, 5000), fails(0, api.ErrAgain))
+	n.do(1, connect(0, 0, addr0, 5000))
+	for _, i := range []int{0, 1, 0} {
+		f := n.way[i][0]
+		n.way[i] = n.way[i][1:]
+		returns, frames := n.stacks[i].Frame(f, n.now, 0)
+		n.take(i, returns, frames)
+	}
+	n.do(0, poll(0, 0, 7), "0:")
+	n.do(0, shut(0, 0), "0:")
+	n.do(0, poll(0, 0, 7), "0: n2")
+	n.do(0, send(0, 0, "x"), fails(0, api.ErrPipe))
+}
+
+func TestP20_2ConnectSegment(t *testing.T) {
+	n := joined(t)
+	n.draw = 12345678901
+	n.do(0, newSocket(0, tcp), "0: n1")
+	n.do(0, connect(0, 1, addr1, 80))
+	f, _ := ether.Decode(n.way[1][0])
+	p, _ := ipv4.Decode(f.Data)
+	s, err := segment.Decode(p.From, p.To, p.Data)
+	if err != api.OK || s.Flags != api.Syn || s.MSS != 1460 || s.Scale != 2 || s.Window != api.SockRoom || s.Seq != 12345678901&0xffffffff || s.From != addr0 || s.ToPort != 80 {
+		t.Error(s, err)
+	}
+}
+
+func TestP20_2Backlog(t *testing.T) {
+	for backlog, want := range map[int]int{-5: 1, 0: 1, 1: 1, 2: 2, 33: 3} {
+		n := fresh(t)
+		n.do(1, newSocket(0, tcp), "0:")
+		n.do(1, bind(0, 0, api.Any, 80), "0:")
+		n.do(1, listen(0, 0, backlog), "0:")
+		for i := range 3 {
+			n.do(0, newSocket(i, tcp), strings.TrimSuffix(strconv.Itoa(i)+": n"+strconv.Itoa(i), " n0"))
+			n.do(0, connect(i, i, addr1, 80))
+			f := n.way
+			for len(f[0])+len(f[1]) > 0 {
+				for k := range 2 {
+					if len(n.way[k]) > 0 {
+						b := n.way[k][0]
+						n.way[k] = n.way[k][1:]
+						returns, frames := n.stacks[k].Frame(b, 0, 0)
+						n.take(k, returns, frames)
+					}
+				}
+				f = n.way
+			}
+		}
+		if c, _ := n.stacks[1].Host().Hub().Count(); c != want {
+			t.Error(backlog, c)
+		}
+	}
+}
+
+func TestP20_2OneByte(t *testing.T) {
+	n := joined(t)
+	n.do(0, send(0, 0, strings.Repeat("x", 8191)), "0: n8191")
+	n.do(0, poll(0, 0, 7), "0: n2")
+	n.do(0, option(0, 0, api.OptNoBlock, 1), "0:")
+	n.do(0, send(0, 0, "yy"), "0: n1")
+	n.do(0, poll(0, 0, 7), "0:")
+}
+
+func TestP20_2OneDatagram(t *testing.T) {
+	n := fresh(t)
+	n.do(1, newSocket(0, udp), "0:")
+	n.do(1, bind(0, 0, addr1, 1), "0:")
+	n.do(0, newSocket(0, udp), "0:")
+	n.do(0, connect(0, 0, addr1, 65535), "0:")
+	n.do(0, connect(0, 0, addr1, 1), "0:")
+	n.do(0, send(0, 0, "ab"), "0: n2")
+	n.run(0, 1)
+	n.do(1, poll(0, 0, 7), "0: n3")
+	n.do(1, recv(0, 0, 1), "0: n1 @1:49152 a")
+	n.do(1, poll(0, 0, 7), "0: n2")
+	n.do(0, newSocket(0, tcp), "0: n1")
+	n.do(0, bind(0, 1, api.Any, 65535), "0:")
+}
+
+// TestP20_2UnderneathTheStack: what is done to the host itself makes calls fail, and nothing else.
+func TestP20_2UnderneathTheStack(t *testing.T) {
+	n := joined(t)
+	hub := n.stacks[1].Host().Hub()
+	n.do(1, accept(0, 0))
+	hub.Deaf(1)
+	n.do(1, newSocket(1, udp), "1: n2", fails(0, api.ErrNone))
+	hub.Drop(2, 0)
+	n.do(1, peer(0, 1), fails(0, api.ErrNone))
+	n.do(1, recv(0, 1, 1), fails(0, api.ErrNone))
+	n.do(1, send(0, 1, "x"), fails(0, api.ErrNone))
+	n.do(1, shut(0, 1), fails(0, api.ErrNone))
+	n.do(1, closed(0, 1), "0:")
+	n.do(1, closed(0, 0), "0:")
+	n.stacks[1].Host().Bind(2, api.Any, 9)
+	n.do(1, bind(0, 2, api.Any, 10), fails(0, api.ErrExists))
+	n.stacks[1].Host().Free(2)
+	n.do(1, bind(0, 2, api.Any, 10), "0:")
+	n.stacks[1].Host().Free(2)
+	n.do(1, connect(0, 2, addr0, 10), fails(0, api.ErrNone))
+	n.do(1, peer(0, 2), fails(0, api.ErrNotConn))
+}
+
 func TestP20_2ConnectAndShut(t *testing.T) {
 	n := fresh(t)
 	n.do(0, newSocket(0, tcp), "0:")
@@ -667,6 +813,17 @@ func TestP20_2ToOneself(t *testing.T) {
 	n.do(0, connect(0, 1, addr0, 80), "0:", "1: n2 @1:49152")
 	n.do(0, recv(1, 2, 100))
 	n.do(0, send(0, 1, "me"), "0: n2", "1: n2 me")
+}
+
+func TestP20_2ToOneselfNoBlock(t *testing.T) {
+	n := fresh(t)
+	n.do(0, newSocket(0, tcp), "0:")
+	n.do(0, bind(0, 0, api.Any, 80), "0:")
+	n.do(0, listen(0, 0, 5), "0:")
+	n.do(0, newSocket(0, tcp), "0: n1")
+	n.do(0, option(0, 1, api.OptNoBlock, 1), "0:")
+	n.do(0, connect(0, 1, addr0, 80), fails(0, api.ErrAgain))
+	n.do(0, connect(0, 1, addr0, 80), fails(0, api.ErrIsConn))
 }
 
 func TestP20_3FramesFirst(t *testing.T) {

@@ -115,6 +115,11 @@ func TestP24_2Wrong(t *testing.T) {
 	do(t, w, api.Step{Kind: api.StepAlter, N: 60, By: 1}, "", api.ErrNone)
 	do(t, w, api.Step{Kind: api.StepAlter, N: -1, By: 1}, "", api.ErrNone)
 	do(t, w, api.Step{Kind: api.StepAlter, N: 59, By: 1}, "", api.OK)
+	do(t, w, api.Step{Kind: api.StepAlter, N: 0, By: 1}, "", api.OK)
+	do(t, w, api.Step{Kind: api.StepTick, N: 1 << 20}, "", api.OK)
+	if w.Now() != 1<<20 {
+		t.Error(w.Now())
+	}
 }
 
 func TestP24_2Draws(t *testing.T) {
