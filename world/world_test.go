@@ -402,21 +402,28 @@ func TestP24_5And6Streams(t *testing.T) {
 			r.do(api.Step{Kind: api.StepTick, N: 1})
 		}
 		start := r.w.Now()
+		limit := ((most[0]+most[1])/536 + 20) * api.MaxRTO
 		for !(r.done[0] && r.done[1]) {
 			r.talk(most)
 			r.take(r.w.Settle(1))
-			if r.w.Now()-start > ((most[0]+most[1])/536+20)*api.MaxRTO {
+			if r.w.Now()-start > limit {
 				t.Fatal(seed, "it takes too long", len(r.got[0]), len(r.got[1]), most)
 			}
 		}
 		if len(r.got[1]) != most[0] || len(r.got[0]) != most[1] {
 			t.Fatal(seed, len(r.got[1]), len(r.got[0]))
 		}
-		r.w.Settle(api.TwoMSL + 1)
 		for i := range 2 {
 			conn := 1 + i // the first number of host 1 is the listener's
-			if s, err := r.w.sides[i].Host().Hub().State(conn); s != api.Closed || err != api.OK {
-				t.Error(seed, i, s, err)
+			hub := r.w.sides[i].Host().Hub()
+			for state, _ := hub.State(conn); state != api.Closed; state, _ = hub.State(conn) {
+				r.take(r.w.Settle(1))
+				if r.w.Now()-start > limit {
+					t.Fatal(seed, i, "the connection does not end", state)
+				}
+			}
+			if _, err := hub.State(conn); err != api.OK {
+				t.Error(seed, i, err)
 			}
 		}
 	}
